@@ -110,11 +110,13 @@ func ReadStream(b []int) ([]Item, int) {
 // validBytes reports whether there are at most some numbers, all of which
 // may stand in a frame.
 func validBytes(list []int, most int) bool {
-	if len(list) > most {
-		return false
-	}
+	return len(list) <= most && allWithin(list, 0, MaxByte)
+}
+
+// allWithin reports whether all numbers are in least..most.
+func allWithin(list []int, least int, most int) bool {
 	for _, n := range list {
-		if !within(n, 0, MaxByte) {
+		if !within(n, least, most) {
 			return false
 		}
 	}

@@ -8,7 +8,7 @@ const MaxArena = 64
 // MaxBlocks is the largest number of blocks of an arena.
 const MaxBlocks = 10
 
-// MaxName is the largest name of a block.
+// MaxName is the largest name of a block or an entry.
 const MaxName = 99
 
 // Block is a part of an arena that is used.

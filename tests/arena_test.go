@@ -394,9 +394,7 @@ func TestArenasShareNoMemory(t *testing.T) {
 		if !ok {
 			t.Fatalf("%s fails", name)
 		}
-		for i := range b.Blocks[:cap(b.Blocks)] {
-			b.Blocks[:cap(b.Blocks)][i] = impl.Block{Name: 77}
-		}
+		overwrite(b.Blocks, impl.Block{Name: 77})
 		if !slices.Equal(a.Blocks, before) || !zeros(behind(a.Blocks)) {
 			t.Fatalf("%s shares the blocks", name)
 		}

@@ -62,3 +62,11 @@ func zeros[T comparable](list []T) bool {
 	var zero T
 	return !slices.ContainsFunc(list, func(x T) bool { return x != zero })
 }
+
+// overwrite changes all elements of a list, those in its spare capacity, too.
+func overwrite[T any](list []T, x T) {
+	list = list[:cap(list)]
+	for i := range list {
+		list[i] = x
+	}
+}
