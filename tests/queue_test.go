@@ -85,21 +85,12 @@ func edgeQueues() []impl.Queue {
 	return list
 }
 
-func invalidQueues() map[string]impl.Queue {
-	two := line(0, 5, 1, 5)
-	queue := func(list []impl.Entry) impl.Queue {
-		return impl.Queue{List: list, Share: times(3, 1), Debt: times(3, 0)}
-	}
-	one := func(x impl.Entry) impl.Queue { return queue([]impl.Entry{{Name: 1, Size: 1}, x}) }
-	share := func(share ...int) impl.Queue { return impl.Queue{List: two, Share: share, Debt: times(3, 0)} }
-	debt := func(debt ...int) impl.Queue { return impl.Queue{List: two, Share: times(3, 1), Debt: debt} }
-	turn := func(turn int) impl.Queue {
-		return impl.Queue{List: two, Share: times(3, 1), Debt: times(3, 9), Turn: turn}
-	}
-	return map[string]impl.Queue{
-		"nothing at all":      {},
-		"many entries":        queue(line(0, 1, 0, 1, 0, 1, 0, 1, 0, 1, 0, 1, 0, 1, 0, 1, 0, 1, 0, 1, 0, 1)),
-		"far too many":        queue(make([]impl.Entry, 200)),
+// invalidLists has entries that no queue has.
+func invalidLists() map[string][]impl.Entry {
+	one := func(x impl.Entry) []impl.Entry { return []impl.Entry{{Name: 1, Size: 1}, x} }
+	return map[string][]impl.Entry{
+		"many entries":        line(0, 1, 0, 1, 0, 1, 0, 1, 0, 1, 0, 1, 0, 1, 0, 1, 0, 1, 0, 1, 0, 1),
+		"far too many":        make([]impl.Entry, 200),
 		"name below":          one(impl.Entry{Name: -1, Size: 1}),
 		"name above":          one(impl.Entry{Name: 100, Size: 1}),
 		"least name":          one(impl.Entry{Name: leastInt, Size: 1}),
@@ -114,29 +105,45 @@ func invalidQueues() map[string]impl.Queue {
 		"size above":          one(impl.Entry{Name: 2, Size: 21}),
 		"least size":          one(impl.Entry{Name: 2, Size: leastInt}),
 		"greatest size":       one(impl.Entry{Name: 2, Size: mostInt}),
-		"no shares":           share(),
-		"few shares":          share(1, 1),
-		"many shares":         share(1, 1, 1, 1),
-		"share 0, first":      share(0, 1, 1),
-		"share 0, last":       share(1, 1, 0),
-		"shares 0":            share(0, 0, 0),
-		"share above":         share(1, 21, 1),
-		"least share":         share(leastInt, 1, 1),
-		"greatest share":      share(mostInt, 1, 1),
-		"no debts":            debt(),
-		"few debts":           debt(0, 0),
-		"many debts":          debt(0, 0, 0, 0),
-		"debt below, first":   debt(-1, 0, 0),
-		"debt below, last":    debt(0, 0, -1),
-		"debt above":          debt(0, 41, 0),
-		"least debt":          debt(leastInt, 0, 0),
-		"greatest debt":       debt(mostInt, 0, 0),
-		"few of both":         {List: two, Share: times(2, 1), Debt: times(2, 1)},
-		"turn below":          turn(-1),
-		"turn above":          turn(3),
-		"least turn":          turn(leastInt),
-		"greatest turn":       turn(mostInt),
 	}
+}
+
+func invalidQueues() map[string]impl.Queue {
+	two := line(0, 5, 1, 5)
+	share := func(share ...int) impl.Queue { return impl.Queue{List: two, Share: share, Debt: times(3, 0)} }
+	debt := func(debt ...int) impl.Queue { return impl.Queue{List: two, Share: times(3, 1), Debt: debt} }
+	turn := func(turn int) impl.Queue {
+		return impl.Queue{List: two, Share: times(3, 1), Debt: times(3, 9), Turn: turn}
+	}
+	queues := map[string]impl.Queue{
+		"nothing at all":    {},
+		"no shares":         share(),
+		"few shares":        share(1, 1),
+		"many shares":       share(1, 1, 1, 1),
+		"share 0, first":    share(0, 1, 1),
+		"share 0, last":     share(1, 1, 0),
+		"shares 0":          share(0, 0, 0),
+		"share above":       share(1, 21, 1),
+		"least share":       share(leastInt, 1, 1),
+		"greatest share":    share(mostInt, 1, 1),
+		"no debts":          debt(),
+		"few debts":         debt(0, 0),
+		"many debts":        debt(0, 0, 0, 0),
+		"debt below, first": debt(-1, 0, 0),
+		"debt below, last":  debt(0, 0, -1),
+		"debt above":        debt(0, 41, 0),
+		"least debt":        debt(leastInt, 0, 0),
+		"greatest debt":     debt(mostInt, 0, 0),
+		"few of both":       {List: two, Share: times(2, 1), Debt: times(2, 1)},
+		"turn below":        turn(-1),
+		"turn above":        turn(3),
+		"least turn":        turn(leastInt),
+		"greatest turn":     turn(mostInt),
+	}
+	for name, list := range invalidLists() {
+		queues[name] = impl.Queue{List: list, Share: times(3, 1), Debt: times(3, 0)}
+	}
+	return queues
 }
 
 // popByHand returns where the entry is that leaves a queue next, and the
